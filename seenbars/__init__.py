@@ -1,0 +1,1 @@
+"""Seenbars: gatekeepers that see some events and block some events."""
