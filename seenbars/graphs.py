@@ -101,6 +101,60 @@ def paired(rows, others):
     return pairs, joined
 
 
+def joint_walk(graphs):
+    """The tuples of nodes that graphs reach together, by events that all can do, in the order of the first ways there.
+
+    With them, as `way_to` takes it, for each tuple the place of the one before it and the event between them.
+    """
+    places = [tuple([0 for _ in graphs])]
+    known = {places[0]: True}
+    came = [(0, "")]
+    at = 0
+    while at < len(places):
+        heads = [rows[node] for rows, node in zip(graphs, places[at])]
+        for event in sorted(heads[0]):
+            if all([event in steps for steps in heads]):
+                ahead = tuple([steps[event] for steps in heads])
+                if ahead not in known:
+                    known[ahead] = True
+                    places.append(ahead)
+                    came.append((at, event))
+        at += 1
+    return places, came
+
+
+def hidden_reach(rows, nodes, hidden):
+    """The ascending tuple of the nodes that hidden events, perhaps none, reach from some nodes."""
+    known = {node: True for node in nodes}
+    waiting = list(known)
+    while waiting:
+        steps = rows[waiting.pop()]
+        for event in hidden:
+            if event in steps and steps[event] not in known:
+                known[steps[event]] = True
+                waiting.append(steps[event])
+    return tuple(sorted(known))
+
+
+def grouped(rows, seen, hidden):
+    """The groups of the nodes that are reached with the same seen events, and the rows of these groups."""
+    groups = [hidden_reach(rows, [0], hidden)]
+    place = {groups[0]: 0}
+    states = []
+    while len(states) < len(groups):
+        group = groups[len(states)]
+        steps = {}
+        for event in seen:
+            ahead = hidden_reach(rows, [rows[node][event] for node in group if event in rows[node]], hidden)
+            if len(ahead) > 0:
+                if ahead not in place:
+                    place[ahead] = len(groups)
+                    groups.append(ahead)
+                steps[event] = place[ahead]
+        states.append(steps)
+    return groups, states
+
+
 def first_kinds(rows, marks):
     """The classes of the nodes, numbered from 0, if only their own marks and events are compared."""
     keys = [(mark, tuple(sorted(steps))) for mark, steps in zip(marks, rows)]

@@ -1,7 +1,7 @@
 """Machines, their runs and their least states."""
 
 from seenbars.errors import InvalidFinal, NotPossible
-from seenbars.graphs import check_names, check_steps, events_of, first_apart, least_graph, paired, walk
+from seenbars.graphs import check_names, check_steps, events_of, first_apart, grouped, least_graph, paired, walk
 
 
 class Machine:
@@ -103,38 +103,11 @@ def first_unlike(one, other):
     return first_apart(one._rows + moved, one._ends + other._ends, 0, gap)
 
 
-def hidden_reach(rows, nodes, hidden):
-    """The ascending tuple of the nodes that hidden events, perhaps none, reach from some nodes."""
-    known = {node: True for node in nodes}
-    waiting = list(known)
-    while waiting:
-        steps = rows[waiting.pop()]
-        for event in hidden:
-            if event in steps and steps[event] not in known:
-                known[steps[event]] = True
-                waiting.append(steps[event])
-    return tuple(sorted(known))
-
-
 def seen_machine(machine, events):
     """The machine of the views of the runs of a machine, if just the events of a list are visible."""
     check_names(events)
-    rows = machine._rows
     seen = [event for event in machine.events if event in events]
     hidden = [event for event in machine.events if event not in events]
-    groups = [hidden_reach(rows, [0], hidden)]
-    place = {groups[0]: 0}
-    states = []
-    while len(states) < len(groups):
-        group = groups[len(states)]
-        steps = {}
-        for event in seen:
-            ahead = hidden_reach(rows, [rows[node][event] for node in group if event in rows[node]], hidden)
-            if len(ahead) > 0:
-                if ahead not in place:
-                    place[ahead] = len(groups)
-                    groups.append(ahead)
-                steps[event] = place[ahead]
-        states.append(steps)
+    groups, states = grouped(machine._rows, seen, hidden)
     finals = [at for at, nodes in enumerate(groups) if any([machine._ends[node] for node in nodes])]
     return Machine(states, finals)

@@ -109,3 +109,10 @@ def position_steps(plant, rule):
                                for event, ahead in plant_rows[state]]
             waiting.extend([ahead for _, ahead in found[position] if ahead is not None])
     return found
+
+
+def rows_among(task, positions):
+    """The rows of the graph of some positions, numbered in their order; a step leads to one of them within the rule."""
+    place = {position: at for at, position in enumerate(positions)}
+    return [{event: place[ahead] for event, ahead in task.steps_at(position) if ahead in place}
+            for position in positions]

@@ -36,6 +36,64 @@ KEEPERS = r'''
 [None, ['fill', 'run'], ['fill', 'leak', 'run'], None, ['fill', 'run']]
 '''
 
+EXACT = r'''
+>>> from seenbars.exact import Team, passed_by
+>>> from seenbars.machines import Machine
+>>> plant = Machine([{"fill": 1}, {"run": 2, "leak": 3}, {"stop": 0}, {"run": 4, "drain": 0}, {"stop": 0}], [0])
+>>> rule = Machine([{"fill": 1}, {"run": 2, "leak": 3}, {"stop": 0}, {"drain": 0}], [])
+>>> blind, leaky = Team(plant, rule, [(["run"], ["fill", "run", "stop", "drain"])]), Team(plant, rule, [(["run"], ["drain", "leak"]), ([], ["fill"])])
+>>> [blind.find_fault(), leaky.find_fault(), passed_by(leaky, leaky.make_keepers()) == leaky.task_of(0).allowed, Team.alone(blind.task_of(0)) == blind]
+[(['fill', 'leak'], 'run', [['fill']]), None, True, True]
+'''
+
+GREATEST = r'''
+>>> from seenbars.greatest import greatest_keeper, greatest_passed, judge_kept, judge_removal, kept, removal
+>>> from seenbars.keepers import passed
+>>> from seenbars.machines import Machine
+>>> from seenbars.tasks import Task
+>>> plant = Machine([{"fill": 1}, {"run": 2, "leak": 3}, {"stop": 0}, {"run": 4, "drain": 0}, {"stop": 0}], [0])
+>>> task = Task(plant, Machine([{"fill": 1}, {"run": 2, "leak": 3}, {"stop": 0}, {"drain": 0}], []), ["run"], [])
+>>> [kept(task), judge_kept(task, [(0, 0), (2, 2), (1, 1)]), judge_kept(task, [(0, 0)]), greatest_passed(task) == task.allowed, removal(task), passed(task.with_visible(plant.events), greatest_keeper(task)) == task.allowed]
+[[(0, 0), (1, 1), (2, 2), (3, 3)], True, False, True, [], True]
+>>> free = task.with_blockable([])
+>>> [kept(free), greatest_passed(free), judge_removal(free, [((2, 2), "run"), ((1, 1), "leak"), ((0, 0), "fill")]), judge_removal(free, [((0, 0), "fill")]), judge_removal(free, removal(free))]
+[[], None, True, False, True]
+'''
+
+BELIEFS = r'''
+>>> from seenbars.beliefs import belief_after, is_steady_choice, judge_menu, judge_ranks, menu, ranks, spread, steady_keeper
+>>> from seenbars.keepers import first_fault
+>>> from seenbars.machines import Machine
+>>> from seenbars.tasks import Task
+>>> plant = Machine([{"fill": 1}, {"run": 2, "leak": 3}, {"stop": 0}, {"run": 4, "drain": 0}, {"stop": 0}], [0])
+>>> task = Task(plant, Machine([{"fill": 1}, {"run": 2, "leak": 3}, {"stop": 0}, {"drain": 0}], []), ["run"], ["fill", "run", "stop", "drain"])
+>>> [spread(task, [(1, 1)], []), is_steady_choice(task, [(1, 1)], []), is_steady_choice(task, [(1, 1)], ["run"]), belief_after(task, [(1, 1)], ["run"], "drain"), belief_after(task, [(0, 0)], [], "drain")]
+[[(1, 1), (2, 2)], False, True, [(0, 0)], []]
+>>> [menu(task), judge_menu(task, [([(1, 1)], [["run"]]), ([(0, 0)], [[]])]), first_fault(task, steady_keeper(task), goal="steady"), ranks(task)]
+[[([(0, 0)], [[], ['run']]), ([(1, 1)], [['run']])], True, None, None]
+>>> free = task.with_blockable([])
+>>> [menu(free), judge_ranks(free, [([(0, 0)], 1), ([(1, 1)], 0)]), judge_ranks(free, [([(0, 0)], 0)]), judge_ranks(free, ranks(free))]
+[[], True, False, True]
+'''
+
+FINISHING = r'''
+>>> from seenbars.finishing import book, can_finish, greatest_seen, greatest_seen_keeper, judge_book, judge_losses, losses
+>>> from seenbars.keepers import first_fault, passed
+>>> from seenbars.machines import Machine
+>>> from seenbars.tasks import Task
+>>> plant = Machine([{"fill": 1}, {"run": 2, "leak": 3}, {"stop": 0}, {"run": 4, "drain": 0}, {"stop": 0}], [0])
+>>> task = Task(plant, Machine([{"fill": 1}, {"run": 2, "leak": 3}, {"stop": 0}, {"drain": 0}], []), ["run"], ["fill", "run", "stop", "drain"])
+>>> [book(task), judge_book(task, book(task)), can_finish(task.with_blockable([])), greatest_seen(task).states, passed(task, greatest_seen_keeper(task)) == greatest_seen(task)]
+[[([(0, 0)], [[], ['run']]), ([(1, 1)], [['run']])], True, False, [[('fill', 1)], [('leak', 2)], [('drain', 0)]], True]
+>>> trap = Machine([{"a": 1, "b": 2}, {"c": 1}, {"c": 3}, {}], [3])
+>>> risky = Task(trap, Machine([{"a": 0, "b": 0, "c": 0}], []), ["a"], [])
+>>> [first_fault(risky, greatest_seen_keeper(risky.with_visible(["a"]))), book(risky)]
+[None, [([(0, 0)], [['a']])]]
+>>> lost = risky.with_blockable([])
+>>> [can_finish(lost), judge_losses(lost, [([(0, 0)], [], (1, 0))]), judge_losses(lost, losses(lost)), judge_losses(risky, [([(0, 0)], [], (1, 0))]), losses(risky)]
+[False, True, True, False, None]
+'''
+
 
 class Examples(unittest.TestCase):
     def check(self, name, text, count):
@@ -53,6 +111,18 @@ class Examples(unittest.TestCase):
 
     def test_keepers(self):
         self.check("keepers", KEEPERS, 8)
+
+    def test_exact(self):
+        self.check("exact", EXACT, 6)
+
+    def test_greatest(self):
+        self.check("greatest", GREATEST, 9)
+
+    def test_beliefs(self):
+        self.check("beliefs", BELIEFS, 10)
+
+    def test_finishing(self):
+        self.check("finishing", FINISHING, 12)
 
 
 if __name__ == "__main__":

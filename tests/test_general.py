@@ -5,8 +5,9 @@ import inspect
 import os
 import unittest
 
-from seenbars import errors, keepers, machines, tasks
+from seenbars import beliefs, errors, exact, finishing, greatest, keepers, machines, tasks
 from seenbars.errors import GateError
+from seenbars.exact import Team
 from seenbars.keepers import Keeper, first_fault, first_parting, passed, passes
 from seenbars.machines import Machine, first_unlike, seen_machine
 from seenbars.tasks import Task
@@ -20,8 +21,11 @@ def things():
     """New objects of each class, made of new lists."""
     plant, rule = Machine(copy.deepcopy(STATES), [0, 0]), Machine(copy.deepcopy(RULE_STATES), [])
     task = Task(plant, rule, ["run"], ["fill", "drain"])
-    return {"plant": plant, "rule": rule, "task": task, "half": Keeper(copy.deepcopy(ROOMS)),
-            "shut": Keeper([(["run"], {})])}
+    free, sharp = task.with_blockable([]), task.with_visible(["run", "fill", "leak"])
+    return {"plant": plant, "rule": rule, "task": task, "free": free, "sharp": sharp,
+            "half": Keeper(copy.deepcopy(ROOMS)), "shut": Keeper([(["run"], {})]),
+            "team": Team(plant, rule, [(["run"], ["fill", "leak"]), ([], ["drain"])]),
+            "blind": Team(plant, rule, [(["run"], ["fill"]), (["leak"], ["drain"]), (["run"], [])])}
 
 
 def calls(t):
@@ -44,6 +48,40 @@ def calls(t):
         ("passed", passed, {"task": t["task"], "keeper": t["half"]}),
         ("first_fault", first_fault, {"task": t["task"], "keeper": t["half"], "goal": "exact"}),
         ("first_parting", first_parting, {"task": t["task"], "one": t["shut"], "other": t["half"]}),
+        ("task_of", t["team"].task_of, {"index": 1}),
+        ("alone", Team.alone, {"task": t["task"]}),
+        ("find_fault", t["blind"].find_fault, {}),
+        ("make_keepers", t["team"].make_keepers, {}),
+        ("passed_by", exact.passed_by, {"team": t["team"], "keepers": [t["half"], Keeper([([], {})])]}),
+        ("kept", greatest.kept, {"task": t["task"]}),
+        ("judge_kept", greatest.judge_kept, {"task": t["task"], "told": [(0, 0), (2, 2), (1, 1), (0, 0)]}),
+        ("removal", greatest.removal, {"task": t["free"]}),
+        ("judge_removal", greatest.judge_removal,
+         {"task": t["free"], "told": [((2, 2), "run"), ((1, 1), "leak"), ((0, 0), "fill")]}),
+        ("greatest_passed", greatest.greatest_passed, {"task": t["task"]}),
+        ("greatest_keeper", greatest.greatest_keeper, {"task": t["task"]}),
+        ("spread", beliefs.spread, {"task": t["task"], "belief": [(1, 1)], "choice": ["run"]}),
+        ("is_safe_choice", beliefs.is_safe_choice, {"task": t["task"], "belief": [(1, 1)], "choice": ["run"]}),
+        ("is_steady_choice", beliefs.is_steady_choice, {"task": t["task"], "belief": [(1, 1)], "choice": []}),
+        ("belief_after", beliefs.belief_after,
+         {"task": t["task"], "belief": [(1, 1)], "choice": ["run"], "event": "drain"}),
+        ("menu", beliefs.menu, {"task": t["task"]}),
+        ("judge_menu", beliefs.judge_menu,
+         {"task": t["task"], "told": [([(1, 1)], [["run"]]), ([(0, 0)], [["run"], []])]}),
+        ("steady_keeper", beliefs.steady_keeper, {"task": t["task"]}),
+        ("ranks", beliefs.ranks, {"task": t["free"]}),
+        ("judge_ranks", beliefs.judge_ranks, {"task": t["free"], "told": [([(0, 0)], 1), ([(1, 1)], 0)]}),
+        ("book", finishing.book, {"task": t["task"]}),
+        ("judge_book", finishing.judge_book,
+         {"task": t["task"], "told": [([(1, 1)], [["run"]]), ([(0, 0)], [["run"], []])]}),
+        ("can_finish", finishing.can_finish, {"task": t["task"]}),
+        ("losses", finishing.losses, {"task": t["free"]}),
+        ("judge_losses", finishing.judge_losses,
+         {"task": t["free"], "told": [([(1, 1)], [], (2, 2)), ([(0, 0)], [], "fill")]}),
+        ("greatest_seen", finishing.greatest_seen, {"task": t["sharp"]}),
+        ("greatest_seen_keeper", finishing.greatest_seen_keeper, {"task": t["sharp"]}),
+        ("Team", Team, {"plant": t["plant"], "rule": t["rule"],
+                        "members": [(["run", "leak", "run"], ["stop"]), ([], ["fill", "drain"])]}),
         ("Machine", Machine, {"states": copy.deepcopy(STATES), "finals": [0, 0]}),
         ("Task", Task, {"plant": t["plant"], "rule": t["rule"], "blockable": ["run", "fill", "run"],
                         "visible": ["stop", "fill", "stop"]}),
@@ -60,6 +98,11 @@ def told(thing):
                 thing.positions, [thing.steps_at(position) for position in thing.positions])
     if isinstance(thing, Keeper):
         return ("keeper", thing.rooms, len(thing))
+    if isinstance(thing, Team):
+        return ("team", told(thing.plant), told(thing.rule), thing.members, len(thing), thing.find_fault(),
+                [told(thing.task_of(index)) for index in range(len(thing))])
+    if isinstance(thing, (list, tuple)) and any(isinstance(part, Keeper) for part in thing):
+        return [told(part) for part in thing]
     return thing
 
 
@@ -108,7 +151,14 @@ class Arguments(unittest.TestCase):
                  (Keeper, [[(["b", "a", "b"], {"b": 0, "a": 1})]]), (Keeper, [[(["b", "A"], {})]]),
                  (passes, [t["task"], Keeper([(["leak"], {})]), []]), (passes, [t["task"], t["half"], ["run"]]),
                  (first_fault, [t["task"], t["half"], "none"]),
-                 (first_parting, [t["task"], t["half"], Keeper([(["leak"], {})])])]
+                 (first_parting, [t["task"], t["half"], Keeper([(["leak"], {})])]),
+                 (Team, [t["plant"], t["rule"], [(["run", "fill", "run"], ["A"]), (["B"], [])]]),
+                 (t["blind"].make_keepers, []), (exact.passed_by, [t["team"], [t["half"], t["shut"]]]),
+                 (beliefs.spread, [t["task"], [(1, 1), (0, 0)], []]),
+                 (beliefs.is_safe_choice, [t["task"], [(1, 1)], ["run", "run"]]),
+                 (beliefs.is_steady_choice, [t["task"], [(1, 1)], ["leak", "fill"]]),
+                 (beliefs.belief_after, [t["task"], [(1, 1)], ["run"], "leak"]),
+                 (finishing.greatest_seen, [t["task"]]), (finishing.greatest_seen_keeper, [t["task"]])]
         for call, arguments in wrong:
             before = copy.deepcopy([told(argument) for argument in arguments])
             answers = {name: copy.deepcopy(told(thing)) for name, thing in t.items()}
@@ -118,14 +168,30 @@ class Arguments(unittest.TestCase):
 
     def test_later_changes_of_what_was_passed(self):
         states, finals, blockable, visible, rooms = copy.deepcopy(STATES), [0], ["run"], ["fill"], copy.deepcopy(ROOMS)
+        members = [(["run"], ["fill"]), (["leak", "run"], ["drain"])]
         plant = Machine(states, finals)
         task = Task(plant, Machine(RULE_STATES, []), blockable, visible)
         other = task.with_blockable(visible).with_visible(blockable)
-        keeper = Keeper(rooms)
-        before = copy.deepcopy([told(thing) for thing in (plant, task, other, keeper)])
-        for given in (states, finals, blockable, visible, rooms):
+        keeper, team = Keeper(rooms), Team(plant, Machine(RULE_STATES, []), members)
+        before = copy.deepcopy([told(thing) for thing in (plant, task, other, keeper, team)])
+        for given in (states, finals, blockable, visible, rooms, members):
             spoil(given)
-        self.assertEqual([told(thing) for thing in (plant, task, other, keeper)], before)
+        self.assertEqual([told(thing) for thing in (plant, task, other, keeper, team)], before)
+
+    def test_errors_hold_copies(self):
+        t = things()
+        belief, choice = [(1, 1), (0, 0)], ["run", "run"]
+        for error, call, arguments in [(errors.InvalidBelief, beliefs.spread, [t["task"], belief, []]),
+                                       (errors.InvalidChoice, beliefs.spread, [t["task"], [(1, 1)], choice]),
+                                       (errors.NotExact, t["blind"].make_keepers, [])]:
+            with self.assertRaises(error) as caught:
+                call(*arguments)
+            value = copy.deepcopy(caught.exception.value)
+            spoil(belief)
+            spoil(choice)
+            spoil(t["blind"].find_fault())
+            self.assertEqual(caught.exception.value, value)
+            belief[:], choice[:] = [(1, 1), (0, 0)], ["run", "run"]
 
     def test_rows_that_are_one_dict(self):
         steps, blocked = {"a": 1}, ["a"]
@@ -138,7 +204,7 @@ class Answers(unittest.TestCase):
         """Each returned value that has lists."""
         found = [(name, call(**arguments)) for name, call, arguments in calls(t)]
         for at, (name, value) in enumerate(list(found) + list(t.items())):
-            for part in ("states", "finals", "events", "blockable", "visible", "positions", "rooms"):
+            for part in ("states", "finals", "events", "blockable", "visible", "positions", "rooms", "members"):
                 if hasattr(value, part):
                     found.append((name + str(at) + part, getattr(value, part)))
         return [(name, value) for name, value in found if isinstance(value, (list, tuple))]
@@ -185,13 +251,43 @@ class Answers(unittest.TestCase):
         self.assertIs(type(t["half"] | t["shut"]), Keeper)
         self.assertIs(type(t["task"].with_visible([])), Task)
 
+    def test_kinds_of_certificates(self):
+        t = things()
+        run, event, alike = t["blind"].find_fault()
+        self.assertEqual([type(part) for part in (run, event, alike)], [list, str, list])
+        self.assertIs(type(t["blind"].find_fault()), tuple)
+        for blockable, visible in t["team"].members:
+            self.assertEqual([type(blockable), type(visible)], [list, list])
+        for told_list in (beliefs.menu(t["task"]), finishing.book(t["task"])):
+            self.assertIs(type(told_list), list)
+            for entry in told_list:
+                self.assertIs(type(entry), tuple)
+                belief, choices = entry
+                self.assertEqual({type(part) for part in [belief, choices] + choices}, {list})
+                self.assertEqual({type(place) for place in belief}, {tuple})
+        for belief, rank in beliefs.ranks(t["free"]):
+            self.assertEqual([type(belief), type(rank), type(belief[0])], [list, int, tuple])
+        for belief, choice, reason in finishing.losses(t["free"]):
+            self.assertEqual([type(belief), type(belief[0])], [list, tuple])
+            self.assertIn(type(choice), (list, type(None)))
+            self.assertIn(type(reason), (str, tuple))
+        for position, reason in greatest.removal(t["free"]):
+            self.assertIs(type(position), tuple)
+            self.assertIn(type(reason), (str, type(None)))
+
 
 class Places(unittest.TestCase):
     """Where the names of the interface are defined."""
 
     def test_functions_and_classes(self):
         listed = {machines: ["Machine", "first_unlike", "seen_machine"], tasks: ["Task"],
-                  keepers: ["Keeper", "passes", "passed", "first_fault", "first_parting"], errors: ["GateError"]}
+                  keepers: ["Keeper", "passes", "passed", "first_fault", "first_parting"], errors: ["GateError"],
+                  exact: ["Team", "passed_by"],
+                  greatest: ["kept", "judge_kept", "removal", "judge_removal", "greatest_passed", "greatest_keeper"],
+                  beliefs: ["spread", "is_safe_choice", "is_steady_choice", "belief_after", "menu", "judge_menu",
+                            "steady_keeper", "ranks", "judge_ranks"],
+                  finishing: ["book", "judge_book", "can_finish", "losses", "judge_losses", "greatest_seen",
+                              "greatest_seen_keeper"]}
         for module, names in listed.items():
             for name in names:
                 self.assertEqual(getattr(module, name).__module__, module.__name__)
@@ -203,7 +299,10 @@ class Places(unittest.TestCase):
             Task: (["__init__", "__eq__", "view_of", "position_after", "steps_at", "with_blockable", "with_visible"],
                    ["plant", "rule", "blockable", "visible", "allowed", "positions"]),
             Keeper: (["__init__", "__len__", "__eq__", "__or__", "blocked_after"], ["rooms"]),
+            Team: (["__init__", "__len__", "__eq__", "task_of", "find_fault", "make_keepers"],
+                   ["plant", "rule", "members"]),
         }
+        self.assertIsInstance(vars(Team)["alone"], classmethod)
         for kind, (methods, properties) in listed.items():
             for name in methods:
                 self.assertTrue(inspect.isfunction(vars(kind)[name]), name)

@@ -1,8 +1,13 @@
 """What the limits of point [2] allow is answered in a short time, also the largest."""
 
+import itertools
 import time
 import unittest
 
+from seenbars.beliefs import judge_menu, judge_ranks, menu, ranks, steady_keeper
+from seenbars.exact import Team, passed_by
+from seenbars.finishing import book, can_finish, greatest_seen, judge_book, judge_losses, losses
+from seenbars.greatest import greatest_passed, judge_kept, judge_removal, kept, removal
 from seenbars.keepers import Keeper, first_fault, first_parting, passed, passes
 from seenbars.machines import Machine, first_unlike, seen_machine
 from seenbars.tasks import Task
@@ -104,6 +109,111 @@ class Speed(unittest.TestCase):
         self.assertEqual(len(three), 180)
         self.assertEqual(len(three | three), 180)
         self.assertEqual(len(counter(6, "a") | counter(6, "b") | counter(6, "d")), 216)
+
+
+# Six states over five events, with which nearly all beliefs come about.
+ROUND = [{"b": 2, "d": 5, "e": 2, "c": 4}, {"d": 3, "e": 3}, {"a": 4, "b": 1, "c": 5, "d": 0, "e": 4},
+         {"a": 4, "b": 5, "e": 0, "c": 2, "d": 2}, {"a": 5, "c": 1, "b": 0, "d": 1, "e": 3},
+         {"b": 2, "e": 4, "c": 5, "d": 4, "a": 5}]
+# Without an end that is reached from each position.
+LOSING = [{"e": 4, "c": 3, "a": 0}, {"a": 5, "c": 0, "d": 5, "b": 2, "e": 3}, {"c": 2, "d": 4, "e": 1, "b": 2},
+          {"a": 4, "b": 1, "c": 4, "d": 3, "e": 2}, {"a": 3, "c": 1, "d": 3, "e": 5, "b": 0}, {"a": 5, "b": 5, "c": 5}]
+ANY_RULE = [{event: 0 for event in EVENTS}]
+
+
+class Stage2(unittest.TestCase):
+    """Tasks and teams at the limits: eight positions, or six with four blockable events; five events."""
+
+    def setUp(self):
+        self.begun = time.perf_counter()
+
+    def tearDown(self):
+        self.assertLess(time.perf_counter() - self.begun, SECONDS)
+
+    def tasks(self, seed, count, positions):
+        """Tasks with just so many positions and five events, four of them blockable."""
+        numbers = Numbers(seed)
+        while count > 0:
+            size = 2 + numbers.below(5)
+            plant = Machine(*some_spec(numbers, EVENTS, size, missing=6))
+            rule = Machine(*some_spec(numbers, EVENTS, 1 + numbers.below(9 - size), missing=12))
+            if plant.events == EVENTS and len(plant) + len(rule) <= 8:
+                task = Task(plant, rule, EVENTS[1:], [event for event in EVENTS if numbers.below(3) > 0])
+                if len(task.positions) == positions:
+                    yield task
+                    count -= 1
+
+    def test_teams(self):
+        found = [0, 0]
+        for positions, many in ((8, 2), (5, 3)):
+            for task in self.tasks(81, 30, positions):
+                members = [(EVENTS[:at + 3], task.visible[at:] + EVENTS[:at]) for at in range(many)]
+                team = Team(task.plant, task.rule, members)
+                found[team.find_fault() is None] += 1
+                if team.find_fault() is None:
+                    self.assertEqual(passed_by(team, team.make_keepers()), task.allowed)
+        self.assertGreater(min(found), 3)
+
+    def test_teams_that_walk_far(self):
+        plant = Machine([{"a": 3, "b": 2, "e": 2}, {"a": 2, "e": 0, "c": 1}, {"a": 0, "e": 1, "d": 2, "c": 2},
+                         {"a": 1, "e": 3, "d": 3, "c": 3}, {"b": 3, "c": 0, "e": 2, "d": 1, "a": 0}], [1])
+        rule = Machine([{"e": 1, "a": 0, "c": 0, "d": 0}, {"b": 0, "a": 1, "e": 0, "c": 1, "d": 1}], [0])
+        team = Team(plant, rule, [(plant.events, ["a", "c", "e"]), (plant.events, ["a", "d", "e"])])
+        self.assertEqual(len(team.task_of(0).positions), 8)
+        run, event, alike = team.find_fault()
+        self.assertEqual((event, plant.has(run + [event]), rule.has(run + [event])), ("b", True, False))
+        for number, other in enumerate(alike):
+            self.assertEqual(team.task_of(number).view_of(other), team.task_of(number).view_of(run))
+            self.assertTrue((plant & rule).has(other + [event]))
+        free = Team(Machine(ROUND, [0]), Machine(ANY_RULE, []), [(EVENTS, EVENTS[1:]), (EVENTS, EVENTS[:4])])
+        self.assertEqual(passed_by(free, free.make_keepers()), free.plant)
+
+    def test_greatest(self):
+        for task in self.tasks(82, 40, 8):
+            self.assertIs(judge_kept(task, kept(task)), (0, 0) in kept(task))
+            self.assertIs(judge_removal(task, removal(task)), (0, 0) not in kept(task))
+            self.assertEqual(greatest_passed(task) is None, (0, 0) not in kept(task))
+            self.assertIs(judge_kept(task, task.positions * 250), kept(task) == task.positions)
+            self.assertIs(judge_removal(task, [((0, 0), "a")] * 2000), False)
+
+    def test_steady(self):
+        found = [0, 0]
+        for task in self.tasks(83, 40, 6):
+            told, low = menu(task), ranks(task)
+            found[low is None] += 1
+            self.assertIs(judge_menu(task, told) if told else judge_ranks(task, low), True)
+            self.assertEqual(steady_keeper(task) is None, told == [])
+        self.assertGreater(min(found), 3)
+
+    def test_finishing(self):
+        found = [0, 0]
+        for task in self.tasks(84, 25, 6):
+            told, low = book(task), losses(task)
+            found[low is None] += 1
+            self.assertIs(judge_book(task, told) if told else judge_losses(task, low), True)
+            seeing = task.with_visible(task.blockable)
+            self.assertEqual(greatest_seen(seeing) is None, not can_finish(seeing))
+        self.assertGreater(min(found), 3)
+
+    def test_nearly_all_beliefs(self):
+        task = Task(Machine(ROUND, [0]), Machine(ANY_RULE, []), EVENTS[1:], ["a", "c", "d"])
+        told = book(task)
+        self.assertGreater(len(told), 40)
+        self.assertIs(judge_book(task, told), True)
+        self.assertIs(judge_menu(task, menu(task)), True)
+        self.assertIsNone(losses(task))
+
+    def test_losses_of_two_thousand_entries(self):
+        task = Task(Machine(LOSING, [0]), Machine(ANY_RULE, []), EVENTS[:4], ["a", "c", "e"])
+        told = losses(task)
+        self.assertIs(judge_losses(task, (told * (2000 // len(told) + 1))[:2000]), True)
+        endless = Task(Machine(ROUND, []), Machine(ANY_RULE, []), EVENTS[1:], ["a", "c", "d"])
+        # Each belief is lost by an entry of its own, while all the other beliefs have their choices still.
+        beliefs = [list(belief) for size in range(6, 0, -1) for belief in itertools.combinations(endless.positions, size)]
+        entries = [(belief, None, belief[-1]) for belief in beliefs]
+        self.assertEqual(len(entries), 63)
+        self.assertIs(judge_losses(endless, entries * 31), True)
+        self.assertIs(judge_losses(endless, losses(endless)), True)
 
 
 if __name__ == "__main__":
