@@ -30,12 +30,17 @@ def check_pair(task, belief, choice):
         raise InvalidChoice(list(choice))
 
 
+def subsets(events):
+    """All sets of events of an ascending list, as ascending tuples, by their number of events and then in order."""
+    found = [()]
+    for event in events:
+        found = found + [(*chosen, event) for chosen in found]
+    return [chosen for _, chosen in sorted([(len(chosen), chosen) for chosen in found])]
+
+
 def choices_of(task):
     """All choices of a task, in order."""
-    found = [()]
-    for event in task.blockable:
-        found = found + [(*choice, event) for choice in found]
-    return [choice for _, choice in sorted([(len(choice), choice) for choice in found])]
+    return subsets(task.blockable)
 
 
 def open_steps(task, position, choice):
@@ -239,6 +244,11 @@ def judge_ranks(task, told):
     return START in ranking
 
 
+def first_choice(plan, belief):
+    """The first choice that a plan has for a belief."""
+    return list(plan[belief])[0]
+
+
 def first_choice_keeper(task, plan):
     """The keeper that takes the first choice that a plan lists for each belief; None if the start is lost."""
     beliefs = [tuple(belief) for belief, _ in listed(plan)]
@@ -247,7 +257,7 @@ def first_choice_keeper(task, plan):
     place = {belief: room for room, belief in enumerate(beliefs)}
     rooms = []
     for belief in beliefs:
-        choice = list(plan[belief])[0]
+        choice = first_choice(plan, belief)
         steps = plan[belief][choice]
         rooms.append((list(choice), {event: place[steps[event]] for event in steps}))
     return Keeper(rooms)

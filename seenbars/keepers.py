@@ -56,18 +56,23 @@ def leaving(room, steps):
     return {event: steps[event] for event in steps if steps[event] != room}
 
 
+def check_blocks(task, keeper):
+    """Raises NotBlockable(event), with the least event that a keeper blocks in a room and that is not blockable."""
+    blockable = task.blockable
+    strange = sorted({event for blocked, _ in keeper.rooms for event in blocked if event not in blockable})
+    if len(strange) > 0:
+        raise NotBlockable(strange[0])
+
+
 def gate(task, keeper):
     """The machine of the lists of events of the plant that the keeper does not block; each of them is complete.
 
     Raises NotBlockable(event).
     """
-    blockable, visible, events = task.blockable, task.visible, task.plant.events
-    rooms = keeper.rooms
-    strange = sorted({event for blocked, _ in rooms for event in blocked if event not in blockable})
-    if len(strange) > 0:
-        raise NotBlockable(strange[0])
+    check_blocks(task, keeper)
+    visible, events = task.visible, task.plant.events
     states = []
-    for room, (blocked, steps) in enumerate(rooms):
+    for room, (blocked, steps) in enumerate(keeper.rooms):
         seen = {event: ahead for event, ahead in steps if event in visible}
         states.append({event: seen.get(event, room) for event in events if event not in blocked})
     return Machine(states, list(range(len(states))))

@@ -85,22 +85,39 @@ def least_states(spec):
 
 def least_by_rounds(spec):
     """The same for larger machines: states are told apart in rounds, by one event more in each round."""
+    states, marks = least_rows(spec[0], [state in spec[1] for state in range(len(spec[0]))])
+    return states, [state for state, is_end in enumerate(marks) if is_end]
+
+
+def least_rows(rows, marks):
+    """The rows, as lists of steps, and the marks of the least graph, for rows that are dicts."""
     order = [0]
-    for state in order:
-        for event in sorted(spec[0][state]):
-            if spec[0][state][event] not in order:
-                order.append(spec[0][state][event])
-    kinds = {state: state in spec[1] for state in order}
-    for _ in order:
+    for node in order:
+        for event in sorted(rows[node]):
+            if rows[node][event] not in order:
+                order.append(rows[node][event])
+    kinds = {node: marks[node] for node in order}
+    many = 0
+    while len(set(kinds.values())) > many:
+        many = len(set(kinds.values()))
         number = {}
-        told = {state: (kinds[state], tuple((event, kinds[to]) for event, to in sorted(spec[0][state].items())))
-                for state in order}
-        kinds = {state: number.setdefault(told[state], len(number)) for state in order}
+        told = {node: (marks[node], kinds[node], tuple((event, kinds[to]) for event, to in sorted(rows[node].items())))
+                for node in order}
+        kinds = {node: number.setdefault(told[node], len(number)) for node in order}
     heads = {}
-    for state in order:
-        heads.setdefault(kinds[state], state)
-    states = [[(event, kinds[to]) for event, to in sorted(spec[0][state].items())] for state in heads.values()]
-    return states, [kind for kind, state in heads.items() if state in spec[1]]
+    for node in order:
+        heads.setdefault(kinds[node], node)
+    least = [[(event, kinds[to]) for event, to in sorted(rows[node].items())] for node in heads.values()]
+    return least, [marks[node] for node in heads.values()]
+
+
+def least_rooms_by_rounds(rooms):
+    """The least rooms of a keeper with any number of rooms, as `Keeper.rooms` gives them."""
+    events = sorted({event for _, steps in rooms for event in steps})
+    full = [{event: steps.get(event, room) for event in events} for room, (_, steps) in enumerate(rooms)]
+    rows, marks = least_rows(full, [tuple(sorted(set(blocked))) for blocked, _ in rooms])
+    return [(list(mark), [step for step in row if step[1] != room])
+            for room, (mark, row) in enumerate(zip(marks, rows))]
 
 
 def first_unlike_by_pairs(one, other):

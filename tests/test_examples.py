@@ -94,6 +94,45 @@ FINISHING = r'''
 [False, True, True, False, None]
 '''
 
+LEAST = r'''
+>>> from seenbars.least import is_enough, least_blockable, least_visible
+>>> from seenbars.machines import Machine
+>>> from seenbars.tasks import Task
+>>> plant = Machine([{"fill": 1}, {"run": 0, "leak": 2}, {"run": 0, "drain": 0}], [0])
+>>> task = Task(plant, Machine([{"fill": 1}, {"run": 0, "leak": 2}, {"drain": 0}], []), ["run"], [])
+>>> [is_enough(task, "finishing"), is_enough(task, "exact"), least_visible(task, "exact"), least_visible(task, "safe"), least_blockable(task, "steady")]
+[True, False, [['drain', 'leak'], ['fill', 'leak']], [[]], [['fill'], ['leak'], ['run']]]
+'''
+
+GUARDS = r'''
+>>> from seenbars.guards import Guard, SteadyGuard
+>>> from seenbars.keepers import Keeper
+>>> from seenbars.machines import Machine
+>>> from seenbars.tasks import Task
+>>> plant = Machine([{"fill": 1}, {"run": 2, "leak": 3}, {"stop": 0}, {"run": 4, "drain": 0}, {"stop": 0}], [0])
+>>> task = Task(plant, Machine([{"fill": 1}, {"run": 2, "leak": 3}, {"stop": 0}, {"drain": 0}], []), ["run"], ["fill", "run", "stop", "drain"])
+>>> guard = Guard(task, Keeper([(["run"], {})]))
+>>> [guard.attempt(["fill", "leak"]), guard.run, guard("fill"), guard.able(), guard.view, guard.is_complete, len(guard), guard.undo(), guard.state]
+[[['run'], ['run']], [], ['run'], ['leak'], ['fill'], False, 1, None, 0]
+>>> hand = SteadyGuard(task)
+>>> [hand.belief, hand.choices, hand.choose(["run"]), hand.blocked, hand("fill"), hand.belief, hand.undo(), hand.blocked]
+[[(0, 0)], [[], ['run']], None, ['run'], ['run'], [(1, 1)], None, ['run']]
+'''
+
+READINGS = r'''
+>>> from seenbars.keepers import Keeper
+>>> from seenbars.machines import Machine
+>>> from seenbars.readings import read_keeper, read_machine, read_task
+>>> from seenbars.tasks import Task
+>>> from seenbars.texts import show_keeper, show_machine, show_task
+>>> machine = Machine([{"on": 1, "test": 0}, {"off": 0}], [0])
+>>> [show_machine(machine), read_machine("0!: off 0") == Machine([{"off": 0}], [0]), show_keeper(Keeper([(["on"], {"off": 1}), ([], {})])), read_keeper("0 []:") == Keeper([([], {})])]
+['0!: on 1, test 0 / 1: off 0', True, '0 [on]: off 1 / 1 []:', True]
+>>> task = Task(machine, Machine([{"on": 1}, {"off": 0}], []), ["on"], [])
+>>> [show_task(task), read_task(show_task(task)) == task]
+['plant 0!: on 1, test 0 / 1: off 0 | rule 0: on 1 / 1: off 0 | blockable on | visible', True]
+'''
+
 
 class Examples(unittest.TestCase):
     def check(self, name, text, count):
@@ -123,6 +162,15 @@ class Examples(unittest.TestCase):
 
     def test_finishing(self):
         self.check("finishing", FINISHING, 12)
+
+    def test_least(self):
+        self.check("least", LEAST, 6)
+
+    def test_guards(self):
+        self.check("guards", GUARDS, 10)
+
+    def test_texts_and_readings(self):
+        self.check("readings", READINGS, 9)
 
 
 if __name__ == "__main__":

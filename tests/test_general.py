@@ -5,9 +5,11 @@ import inspect
 import os
 import unittest
 
-from seenbars import beliefs, errors, exact, finishing, greatest, keepers, machines, tasks
+from seenbars import (beliefs, errors, exact, finishing, greatest, guards, keepers, least, machines, readings, tasks,
+                      texts)
 from seenbars.errors import GateError
 from seenbars.exact import Team
+from seenbars.guards import Guard, SteadyGuard
 from seenbars.keepers import Keeper, first_fault, first_parting, passed, passes
 from seenbars.machines import Machine, first_unlike, seen_machine
 from seenbars.tasks import Task
@@ -15,6 +17,30 @@ from seenbars.tasks import Task
 STATES = [{"fill": 1}, {"run": 2, "leak": 3}, {"stop": 0}, {"run": 4, "drain": 0}, {"stop": 0}]
 RULE_STATES = [{"fill": 1}, {"run": 2, "leak": 3}, {"stop": 0}, {"drain": 0}]
 ROOMS = [(["run"], {"fill": 1}), ([], {"drain": 0, "fill": 1})]
+MODULES = [beliefs, errors, exact, finishing, greatest, guards, keepers, least, machines, readings, tasks, texts]
+LISTED = {machines: ["Machine", "first_unlike", "seen_machine"], tasks: ["Task"],
+          keepers: ["Keeper", "passes", "passed", "first_fault", "first_parting"], errors: ["GateError"],
+          exact: ["Team", "passed_by"],
+          greatest: ["kept", "judge_kept", "removal", "judge_removal", "greatest_passed", "greatest_keeper"],
+          beliefs: ["spread", "is_safe_choice", "is_steady_choice", "belief_after", "menu", "judge_menu",
+                    "steady_keeper", "ranks", "judge_ranks"],
+          finishing: ["book", "judge_book", "can_finish", "losses", "judge_losses", "greatest_seen",
+                      "greatest_seen_keeper"],
+          least: ["is_enough", "least_visible", "least_blockable"], guards: ["Guard", "SteadyGuard"],
+          texts: ["show_machine", "show_keeper", "show_task"],
+          readings: ["read_machine", "read_keeper", "read_task"]}
+METHODS = {
+    Machine: (["__init__", "__len__", "__eq__", "__and__", "__or__", "__contains__", "has", "completes", "state_after",
+               "within"], ["states", "finals", "events"]),
+    Task: (["__init__", "__eq__", "view_of", "position_after", "steps_at", "with_blockable", "with_visible"],
+           ["plant", "rule", "blockable", "visible", "allowed", "positions"]),
+    Keeper: (["__init__", "__len__", "__eq__", "__or__", "blocked_after"], ["rooms"]),
+    Team: (["__init__", "__len__", "__eq__", "task_of", "find_fault", "make_keepers"], ["plant", "rule", "members"]),
+    Guard: (["__init__", "__len__", "__eq__", "__call__", "able", "undo", "attempt"],
+            ["run", "view", "state", "blocked", "is_complete", "is_allowed"]),
+    SteadyGuard: (["__init__", "__len__", "__eq__", "__call__", "able", "undo", "choose"],
+                  ["run", "view", "state", "blocked", "is_complete", "is_allowed", "belief", "choices"]),
+}
 
 
 def things():
@@ -22,8 +48,15 @@ def things():
     plant, rule = Machine(copy.deepcopy(STATES), [0, 0]), Machine(copy.deepcopy(RULE_STATES), [])
     task = Task(plant, rule, ["run"], ["fill", "drain"])
     free, sharp = task.with_blockable([]), task.with_visible(["run", "fill", "leak"])
-    return {"plant": plant, "rule": rule, "task": task, "free": free, "sharp": sharp,
+    guard, hand = Guard(task, Keeper([(["run"], {"fill": 1}), ([], {"drain": 0})])), SteadyGuard(task)
+    for live in (guard, hand):
+        live("fill")
+        live("leak")
+        live("drain")
+    return {"guard": guard, "hand": hand, "plant": plant, "rule": rule, "task": task, "free": free, "sharp": sharp,
             "half": Keeper(copy.deepcopy(ROOMS)), "shut": Keeper([(["run"], {})]),
+            "small": Task(Machine([{"fill": 1}, {"run": 0, "leak": 2}, {"run": 0, "drain": 0}], [0]),
+                          Machine([{"fill": 1}, {"run": 0, "leak": 2}, {"drain": 0}], []), ["run"], []),
             "team": Team(plant, rule, [(["run"], ["fill", "leak"]), ([], ["drain"])]),
             "blind": Team(plant, rule, [(["run"], ["fill"]), (["leak"], ["drain"]), (["run"], [])])}
 
@@ -80,6 +113,20 @@ def calls(t):
          {"task": t["free"], "told": [([(1, 1)], [], (2, 2)), ([(0, 0)], [], "fill")]}),
         ("greatest_seen", finishing.greatest_seen, {"task": t["sharp"]}),
         ("greatest_seen_keeper", finishing.greatest_seen_keeper, {"task": t["sharp"]}),
+        ("is_enough", least.is_enough, {"task": t["task"], "goal": "exact"}),
+        ("least_visible", least.least_visible, {"task": t["small"], "goal": "exact"}),
+        ("least_blockable", least.least_blockable, {"task": t["small"], "goal": "steady"}),
+        ("show_machine", texts.show_machine, {"machine": t["plant"]}),
+        ("show_keeper", texts.show_keeper, {"keeper": t["half"]}),
+        ("show_task", texts.show_task, {"task": t["task"]}),
+        ("read_machine", readings.read_machine, {"text": texts.show_machine(t["plant"])}),
+        ("read_keeper", readings.read_keeper, {"text": texts.show_keeper(t["half"])}),
+        ("read_task", readings.read_task, {"text": texts.show_task(t["task"])}),
+        ("able", t["guard"].able, {}),
+        ("attempt", t["guard"].attempt, {"events": ["fill", "leak", "drain"]}),
+        ("able", t["hand"].able, {}),
+        ("Guard", Guard, {"task": t["task"], "keeper": t["half"]}),
+        ("SteadyGuard", SteadyGuard, {"task": t["task"]}),
         ("Team", Team, {"plant": t["plant"], "rule": t["rule"],
                         "members": [(["run", "leak", "run"], ["stop"]), ([], ["fill", "drain"])]}),
         ("Machine", Machine, {"states": copy.deepcopy(STATES), "finals": [0, 0]}),
@@ -87,6 +134,13 @@ def calls(t):
                         "visible": ["stop", "fill", "stop"]}),
         ("Keeper", Keeper, {"rooms": copy.deepcopy(ROOMS)}),
     ]
+
+
+def deeds(guard, hand):
+    """Each call that changes a guard: a name, the guard, what is called and its arguments by name."""
+    return [("__call__", guard, guard, {"event": "fill"}), ("__call__", hand, hand, {"event": "fill"}),
+            ("undo", guard, guard.undo, {}), ("undo", hand, hand.undo, {}),
+            ("choose", hand, hand.choose, {"choice": ["run"]})]
 
 
 def told(thing):
@@ -101,6 +155,10 @@ def told(thing):
     if isinstance(thing, Team):
         return ("team", told(thing.plant), told(thing.rule), thing.members, len(thing), thing.find_fault(),
                 [told(thing.task_of(index)) for index in range(len(thing))])
+    if isinstance(thing, (Guard, SteadyGuard)):
+        more = [thing.belief, thing.choices] if isinstance(thing, SteadyGuard) else []
+        return ["guard", thing.run, thing.view, thing.state, thing.blocked, thing.is_complete, thing.is_allowed,
+                thing.able(), len(thing)] + more
     if isinstance(thing, (list, tuple)) and any(isinstance(part, Keeper) for part in thing):
         return [told(part) for part in thing]
     return thing
@@ -134,6 +192,17 @@ class Arguments(unittest.TestCase):
             self.assertEqual(list(inspect.signature(call).parameters), list(arguments), name)
             self.assertEqual(told(call(*arguments.values())), told(call(**arguments)), name)
 
+    def test_of_calls_that_change_a_guard(self):
+        for at in range(5):
+            name, one, call, arguments = deeds(things()["guard"], things()["hand"])[at]
+            _, other, same, _ = deeds(things()["guard"], things()["hand"])[at]
+            self.assertEqual(list(inspect.signature(call).parameters), list(arguments), name)
+            given = copy.deepcopy(arguments)
+            self.assertEqual(call(*arguments.values()), same(**arguments), name)
+            self.assertEqual(arguments, given)
+            self.assertTrue(one == other)
+            self.assertEqual(told(one), told(other), name)
+
     def test_stay_as_they_were(self):
         for name, call, arguments in calls(things()):
             before = copy.deepcopy([told(argument) for argument in arguments.values()])
@@ -146,7 +215,7 @@ class Arguments(unittest.TestCase):
                  (t["plant"].state_after, [["fill", "fill"]]), (seen_machine, [t["plant"], ["run", "A"]]),
                  (Task, [t["plant"], t["rule"], ["run", "run"], ["A"]]),
                  (Task, [t["plant"], t["rule"], ["run", "other", "run"], ["fill"]]),
-                 (t["task"].position_after, [["fill", "leak", "run"]]), (t["task"].steps_at, [(0, 3)]),
+                 (t["task"].position_after, [["fill", "leak", "stop"]]), (t["task"].steps_at, [(0, 3)]),
                  (t["task"].with_blockable, [["run", "other"]]), (t["task"].with_visible, [["run", "A"]]),
                  (Keeper, [[(["b", "a", "b"], {"b": 0, "a": 1})]]), (Keeper, [[(["b", "A"], {})]]),
                  (passes, [t["task"], Keeper([(["leak"], {})]), []]), (passes, [t["task"], t["half"], ["run"]]),
@@ -158,7 +227,13 @@ class Arguments(unittest.TestCase):
                  (beliefs.is_safe_choice, [t["task"], [(1, 1)], ["run", "run"]]),
                  (beliefs.is_steady_choice, [t["task"], [(1, 1)], ["leak", "fill"]]),
                  (beliefs.belief_after, [t["task"], [(1, 1)], ["run"], "leak"]),
-                 (finishing.greatest_seen, [t["task"]]), (finishing.greatest_seen_keeper, [t["task"]])]
+                 (finishing.greatest_seen, [t["task"]]), (finishing.greatest_seen_keeper, [t["task"]]),
+                 (least.is_enough, [t["task"], "none"]), (least.least_visible, [t["task"], ""]),
+                 (least.least_blockable, [t["task"], "Safe"]), (Guard, [t["task"], Keeper([(["leak"], {})])]),
+                 (SteadyGuard, [t["free"]]), (t["guard"], ["drain"]), (t["guard"], ["run"]), (t["hand"], ["leak"]),
+                 (t["guard"].attempt, [["fill", "leak", "stop"]]), (t["hand"].choose, [["run", "run"]]),
+                 (readings.read_machine, ["0: a 1"]), (readings.read_keeper, ["0 [b a]:"]),
+                 (readings.read_task, ["plant 0: | rule 0: | blockable a | visible"])]
         for call, arguments in wrong:
             before = copy.deepcopy([told(argument) for argument in arguments])
             answers = {name: copy.deepcopy(told(thing)) for name, thing in t.items()}
@@ -182,6 +257,8 @@ class Arguments(unittest.TestCase):
         t = things()
         belief, choice = [(1, 1), (0, 0)], ["run", "run"]
         for error, call, arguments in [(errors.InvalidBelief, beliefs.spread, [t["task"], belief, []]),
+                                       (errors.InvalidChoice, t["hand"].choose, [choice]),
+                                       (errors.NoGatekeeper, SteadyGuard, [t["free"]]),
                                        (errors.InvalidChoice, beliefs.spread, [t["task"], [(1, 1)], choice]),
                                        (errors.NotExact, t["blind"].make_keepers, [])]:
             with self.assertRaises(error) as caught:
@@ -190,6 +267,7 @@ class Arguments(unittest.TestCase):
             spoil(belief)
             spoil(choice)
             spoil(t["blind"].find_fault())
+            spoil(beliefs.ranks(t["free"]))
             self.assertEqual(caught.exception.value, value)
             belief[:], choice[:] = [(1, 1), (0, 0)], ["run", "run"]
 
@@ -204,7 +282,8 @@ class Answers(unittest.TestCase):
         """Each returned value that has lists."""
         found = [(name, call(**arguments)) for name, call, arguments in calls(t)]
         for at, (name, value) in enumerate(list(found) + list(t.items())):
-            for part in ("states", "finals", "events", "blockable", "visible", "positions", "rooms", "members"):
+            for part in ("states", "finals", "events", "blockable", "visible", "positions", "rooms", "members", "run",
+                         "view", "blocked", "belief", "choices"):
                 if hasattr(value, part):
                     found.append((name + str(at) + part, getattr(value, part)))
         return [(name, value) for name, value in found if isinstance(value, (list, tuple))]
@@ -280,34 +359,26 @@ class Places(unittest.TestCase):
     """Where the names of the interface are defined."""
 
     def test_functions_and_classes(self):
-        listed = {machines: ["Machine", "first_unlike", "seen_machine"], tasks: ["Task"],
-                  keepers: ["Keeper", "passes", "passed", "first_fault", "first_parting"], errors: ["GateError"],
-                  exact: ["Team", "passed_by"],
-                  greatest: ["kept", "judge_kept", "removal", "judge_removal", "greatest_passed", "greatest_keeper"],
-                  beliefs: ["spread", "is_safe_choice", "is_steady_choice", "belief_after", "menu", "judge_menu",
-                            "steady_keeper", "ranks", "judge_ranks"],
-                  finishing: ["book", "judge_book", "can_finish", "losses", "judge_losses", "greatest_seen",
-                              "greatest_seen_keeper"]}
-        for module, names in listed.items():
+        self.assertEqual(set(LISTED), set(MODULES))
+        for module, names in LISTED.items():
             for name in names:
                 self.assertEqual(getattr(module, name).__module__, module.__name__)
 
     def test_methods_properties_and_operators(self):
-        listed = {
-            Machine: (["__init__", "__len__", "__eq__", "__and__", "__or__", "__contains__", "has", "completes",
-                       "state_after", "within"], ["states", "finals", "events"]),
-            Task: (["__init__", "__eq__", "view_of", "position_after", "steps_at", "with_blockable", "with_visible"],
-                   ["plant", "rule", "blockable", "visible", "allowed", "positions"]),
-            Keeper: (["__init__", "__len__", "__eq__", "__or__", "blocked_after"], ["rooms"]),
-            Team: (["__init__", "__len__", "__eq__", "task_of", "find_fault", "make_keepers"],
-                   ["plant", "rule", "members"]),
-        }
         self.assertIsInstance(vars(Team)["alone"], classmethod)
-        for kind, (methods, properties) in listed.items():
+        for kind, (methods, properties) in METHODS.items():
             for name in methods:
                 self.assertTrue(inspect.isfunction(vars(kind)[name]), name)
             for name in properties:
                 self.assertIsInstance(vars(kind)[name], property, name)
+
+    def test_each_function_class_and_method_is_called(self):
+        """Nothing of the interface is left out by `calls`, which looks at arguments by position and by name."""
+        t = things()
+        known = {name for name, _, _ in calls(t)} | {name for name, _, _, _ in deeds(t["guard"], t["hand"])} | {"GateError"}
+        listed = [name for names in LISTED.values() for name in names]
+        methods = [name for names, _ in METHODS.values() for name in names if not name.startswith("__")]
+        self.assertEqual(sorted({*listed, *methods, "__call__", "alone"} - known), [])
 
     def test_the_package_is_one_folder_of_python_files(self):
         folder = os.path.dirname(machines.__file__)

@@ -16,7 +16,7 @@ staticmethod classmethod super""".split()
 ALL_BUILTINS = [name for name in dir(builtins) if name != "_"]
 METHODS = """append clear copy count endswith extend find get index insert isalnum isalpha isdigit islower isspace isupper
 items join keys ljust lower lstrip partition pop remove replace reverse rfind rjust rpartition rsplit rstrip setdefault
-split splitlines startswith strip update upper values zfill bit_length add discard __init__""".split()
+split splitlines startswith strip update upper values zfill bit_length isdecimal __init__""".split()
 SPECIAL = """__init__ __eq__ __repr__ __str__ __len__ __call__ __contains__ __and__ __or__""".split()
 STATEMENTS = (ast.Assign, ast.AugAssign, ast.If, ast.While, ast.For, ast.Return, ast.Break, ast.Continue, ast.Pass,
               ast.Raise, ast.Assert, ast.Delete, ast.Try, ast.Expr, ast.FunctionDef, ast.ClassDef, ast.ImportFrom)

@@ -5,12 +5,17 @@ import time
 import unittest
 
 from seenbars.beliefs import judge_menu, judge_ranks, menu, ranks, steady_keeper
+from seenbars.errors import Unreadable
 from seenbars.exact import Team, passed_by
 from seenbars.finishing import book, can_finish, greatest_seen, judge_book, judge_losses, losses
 from seenbars.greatest import greatest_passed, judge_kept, judge_removal, kept, removal
+from seenbars.guards import Guard, SteadyGuard
 from seenbars.keepers import Keeper, first_fault, first_parting, passed, passes
+from seenbars.least import is_enough, least_blockable, least_visible
 from seenbars.machines import Machine, first_unlike, seen_machine
+from seenbars.readings import read_keeper, read_machine, read_task
 from seenbars.tasks import Task
+from seenbars.texts import show_keeper, show_machine, show_task
 from tests.plain import Numbers, some_rooms, some_spec
 
 # Far more than is needed here, so that a slow machine passes, and far less than a walk that grows too fast takes.
@@ -214,6 +219,88 @@ class Stage2(unittest.TestCase):
         self.assertEqual(len(entries), 63)
         self.assertIs(judge_losses(endless, entries * 31), True)
         self.assertIs(judge_losses(endless, losses(endless)), True)
+
+
+# Six states over four events: nearly all sets of visible events bring nearly all beliefs about, and none is enough.
+WIDE = [{"a": 3, "b": 2, "c": 4, "d": 3}, {"a": 1, "b": 5, "c": 1, "d": 4}, {"a": 5, "b": 3, "c": 5, "d": 4},
+        {"a": 3, "b": 1, "c": 1, "d": 3}, {"a": 2, "b": 0, "c": 2, "d": 5}, {"a": 0, "b": 4, "d": 0}]
+
+
+class Stage3(unittest.TestCase):
+    """Least sets, guards and texts at the limits, and what is read from texts beyond them."""
+
+    def setUp(self):
+        self.begun = time.perf_counter()
+
+    def tearDown(self):
+        self.assertLess(time.perf_counter() - self.begun, SECONDS)
+
+    def test_least_sets(self):
+        for finals in ([], [0], [5], [0, 1, 2, 3, 4, 5]):
+            task = Task(Machine(WIDE, finals), Machine(ANY_RULE, []), EVENTS[:4], ["c", "d"])
+            for goal in ("exact", "safe", "steady", "finishing"):
+                enough = goal != "finishing" or len(finals) > 0
+                self.assertEqual([least_visible(task, goal), least_blockable(task, goal)], [[[]] if enough else []] * 2)
+                self.assertIs(is_enough(task, goal), enough)
+
+    def test_guards(self):
+        task = Task(Machine(ROUND, []), Machine(ANY_RULE, []), EVENTS[1:], ["a", "c", "d"])
+        hand, keeper = SteadyGuard(task), steady_keeper(task)
+        numbers = Numbers(91)
+        guard = Guard(task, keeper | keeper)
+        for _ in range(60):
+            event = hand.able()[numbers.below(len(hand.able()))]
+            self.assertEqual(hand(event), guard(event))
+            self.assertEqual([hand.run, hand.state, hand.able()], [guard.run, guard.state, guard.able()])
+        for _ in range(30):
+            hand.undo()
+            guard.undo()
+            self.assertEqual([hand.run, hand.blocked], [guard.run, guard.blocked])
+        self.assertEqual(len(guard), 30)
+
+    def test_texts_of_a_thousand_states(self):
+        steps = [f"a {at + 1}, b 0, c {at + 1}, d {at // 2}, e {at}" for at in range(999)]
+        text = " / ".join(f"{at}: {row}" for at, row in enumerate(steps)) + " / 999!:"
+        machine = read_machine(text)
+        self.assertEqual((len(machine), show_machine(machine)), (1000, text))
+        self.assertIsNone(first_unlike(machine, read_machine(text)))
+        self.assertTrue(machine.within(read_machine(text)))
+        for other in (text[:-1], text + " ", text.replace(" 998", " 997"), text + " a 1000 / 1000!:"):
+            self.assertRaises(Unreadable, read_machine, other)
+
+    def test_machines_that_were_read_and_have_little_in_common(self):
+        """Cycles of 158 and of 157 states: `within` goes through all pairs of their states."""
+        def text(size, finals):
+            return " / ".join(f"{at}{'!' if at in finals else ''}: a {(at + 1) % size}" for at in range(size))
+        one, other = read_machine(text(158, {0})), read_machine(text(157, set(range(157)) - {156}))
+        self.assertIs(one.within(other), False)
+        self.assertEqual(len(first_unlike(one, other)), 1)
+        self.assertNotEqual(one, other)
+
+    def test_keepers_that_were_read(self):
+        def counter(size, event):
+            return Keeper([(["c"] if at == size - 1 else [], {event: (at + 1) % size}) for at in range(size)])
+        keeper = counter(6, "a") | counter(6, "b") | counter(6, "d") | counter(4, "e")
+        text = show_keeper(keeper)
+        found = read_keeper(text)
+        self.assertEqual((len(found), found == keeper, show_keeper(found)), (864, True, text))
+        task = Task(Machine([{"b": 1, "d": 0}, {"a": 0, "c": 1}], [0]), Machine(ANY_RULE, []), ["c"], ["a", "b", "d"])
+        self.assertEqual(first_fault(task, found), first_fault(task, keeper))
+        self.assertIsNone(first_parting(task, found, keeper))
+        self.assertEqual(Guard(task, found).attempt(["b", "a"] * 15), Guard(task, keeper).attempt(["b", "a"] * 15))
+
+    def test_tasks_that_were_read(self):
+        numbers = Numbers(92)
+        for _ in range(20):
+            plant, rule = [Machine(*some_spec(numbers, EVENTS, 20, missing=30)) for _ in range(2)]
+            task = Task(plant, rule, EVENTS[1:], EVENTS[:3])
+            found = read_task(show_task(task))
+            self.assertEqual(found, task)
+            self.assertEqual(found.positions, task.positions)
+            self.assertEqual([found.steps_at(position) for position in found.positions],
+                             [task.steps_at(position) for position in task.positions])
+            self.assertEqual(found.allowed, task.allowed)
+            self.assertEqual(show_task(found.with_visible([])), show_task(task.with_visible([])))
 
 
 if __name__ == "__main__":
