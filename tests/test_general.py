@@ -190,7 +190,9 @@ class Arguments(unittest.TestCase):
     def test_by_position_and_by_name(self):
         for name, call, arguments in calls(things()):
             self.assertEqual(list(inspect.signature(call).parameters), list(arguments), name)
-            self.assertEqual(told(call(*arguments.values())), told(call(**arguments)), name)
+            answer = told(call(*arguments.values()))
+            self.assertEqual(told(call(**arguments)), answer, name)
+            self.assertEqual(told(call(**dict(list(arguments.items())[::-1]))), answer, name)
 
     def test_of_calls_that_change_a_guard(self):
         for at in range(5):

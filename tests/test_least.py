@@ -120,6 +120,7 @@ class Gatekeepers(unittest.TestCase):
         self.assertGreater(min(found.values()), 15)
 
     def test_all_runs(self):
+        """Runs up to seven or eight events are gone through, which is enough for these tasks."""
         found = {}
         for plain, task in cases(402, 200, ("a", "b"), (3, 2), 4, 2):
             # Whoever blocks all passes the runs of unblockable events.
